@@ -1,0 +1,1 @@
+"""Forcemark: marks that force."""
