@@ -38,11 +38,35 @@ def look_set(web, some):
         raise BadSet("a set is a tuple of spots of the web, rising")
 
 
-def neighbours(web, spot):
-    found = []
+# Lists of neighbours are walked far more often than webs are handed in,
+# so they are made once for each web.
+def near_lists(web):
+    near = [[] for spot in range(web[0])]
     for line in web[1]:
-        if line[0] == spot:
-            found.append(line[1])
-        if line[1] == spot:
-            found.append(line[0])
+        near[line[0]].append(line[1])
+        near[line[1]].append(line[0])
+    return near
+
+
+def all_spots(near):
+    return tuple(range(len(near)))
+
+
+def with_more(some, more):
+    return tuple(sorted(set(some) | set(more)))
+
+
+def spots_outside(near, some):
+    return tuple([spot for spot in all_spots(near) if spot not in some])
+
+
+# The sets are ordered as tuples are: each is made longer in place of
+# itself, by greater spots alone.
+def sets_within(pool, size):
+    found = [()]
+    for turn in range(size):
+        longer = []
+        for some in found:
+            longer.extend([some + (spot,) for spot in pool if not some or spot > some[-1]])
+        found = longer
     return found

@@ -1,6 +1,7 @@
 """Webs and sets that are to be refused, with why; and some good webs."""
 
 import itertools
+import random
 
 # The greatest and the least whole number of 15 figures.
 FAR = 999999999999999
@@ -79,3 +80,25 @@ def small_webs(most):
         for size in range(len(pairs) + 1):
             for lines in itertools.combinations(pairs, size):
                 yield (count, list(lines))
+
+
+# The ten spots of a ring within a ring, each with three neighbours.
+TWO_RINGS = (10, sorted(
+    [tuple(sorted((k, (k + 1) % 5))) for k in range(5)]
+    + [(k, k + 5) for k in range(5)]
+    + [tuple(sorted((k + 5, (k + 2) % 5 + 5))) for k in range(5)]
+))
+
+
+def mixed_webs(counts, many):
+    """So many webs of each count of spots, from few lines to many, the same ones each time."""
+    chance = random.Random(11)
+    for count in counts:
+        pairs = list(itertools.combinations(range(count), 2))
+        for k in range(many):
+            yield (count, [pair for pair in pairs if chance.random() * many < k + 1])
+
+
+def trying_webs():
+    """All webs of up to four spots, and some of each greater count below ten."""
+    return list(small_webs(4)) + list(mixed_webs((5, 6, 7), 8)) + [path(7), ring(6), full(6), star(6), (5, [])]

@@ -2,6 +2,7 @@
 
 import unittest
 
+from plain import plain_rounds, plain_steps
 from samples import BAD_SETS, BAD_WEBS, FAR, FAR_BELOW, WEB_OF_THREE, full, path, ring, sets_of, small_webs, star
 
 from forcemark.errors import BadSet, BadSteps, BadWeb
@@ -12,12 +13,6 @@ OF_STEPS = (gone, chains, turned)
 
 # Two ends at 0 and 1, which meet in 2; 3 hangs on 2.
 FORK = (4, [(0, 2), (1, 2), (2, 3)])
-
-
-def plain_steps(web, some):
-    """The steps at a set by the words of [1.2], found another way than the program's."""
-    near = [{b for a, b in web[1] if a == k} | {a for a, b in web[1] if b == k} for k in range(web[0])]
-    return [(a, b) for a in range(web[0]) for b in range(web[0]) if a in some and near[a] - set(some) == {b}]
 
 
 class StepsAt(unittest.TestCase):
@@ -111,11 +106,7 @@ class Rounds(unittest.TestCase):
     def test_every_small_web(self):
         for web in small_webs(4):
             for some in sets_of(web[0]):
-                wanted = [some]
-                while plain_steps(web, wanted[-1]):
-                    more = {b for a, b in plain_steps(web, wanted[-1])}
-                    wanted.append(tuple(sorted(more.union(wanted[-1]))))
-                self.assertEqual(rounds(web, some), wanted, (web, some))
+                self.assertEqual(rounds(web, some), plain_rounds(web, some), (web, some))
 
 
 class Gone(unittest.TestCase):
